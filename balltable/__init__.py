@@ -1,0 +1,1 @@
+"""A pinball table: its games, from coin to match."""
